@@ -1,0 +1,1 @@
+"""Floors laid with slabs of two cells."""
