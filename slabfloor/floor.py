@@ -52,6 +52,13 @@ def _neighbours_of_cells(rows, wide):
     return table
 
 
+def refuse_no_cell(floor, number):
+    """Refuse a number that is no cell of a floor."""
+    if not floor.has(number):
+        # The number is not told: Python refuses to write out a very long one.
+        raise NoCell("this number is no cell of the floor")
+
+
 class Floor:
     """A floor of cells, told by rows of signs."""
 
@@ -60,9 +67,10 @@ class Floor:
         self.rows = list(rows)
         self.high = len(rows)
         self.wide = len(rows[0]) if rows else 0
-        # The methods read this table and never self.rows: whatever is done to
+        # The methods read these two and never self.rows: whatever is done to
         # that list changes nothing else.
-        self._neighbours = _neighbours_of_cells(rows, self.wide)
+        self._signs = tuple(rows)
+        self._neighbours = _neighbours_of_cells(self._signs, self.wide)
 
     def cells(self):
         """All cells, rising."""
@@ -72,10 +80,18 @@ class Floor:
         """Whether a number is a cell."""
         return place in self._neighbours
 
+    def row_and_column(self, place):
+        """The row and the column of a place, pillars too."""
+        # A floor of no width has no places; the 1 only keeps clear of dividing by nought.
+        return divmod(place, max(self.wide, 1))
+
+    def sign(self, row, column):
+        """The sign in a row and a column, that of a pillar outside of the floor."""
+        return _sign_at(self._signs, row, column)
+
     def shade(self, place):
         """The shade of a place, 0 or 1, pillars too."""
-        # A floor of no width has no places; the 1 only keeps clear of dividing by nought.
-        row, column = divmod(place, max(self.wide, 1))
+        row, column = self.row_and_column(place)
         return (row + column) % 2
 
     def may(self, one, other):
@@ -84,7 +100,5 @@ class Floor:
 
     def beside(self, cell):
         """The cells beside a cell, rising."""
-        if not self.has(cell):
-            # The number is not told: Python refuses to write out a very long one.
-            raise NoCell("this number is no cell of the floor")
+        refuse_no_cell(self, cell)
         return list(self._neighbours[cell])

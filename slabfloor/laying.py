@@ -1,6 +1,7 @@
 """Layings: the slabs that lie on a floor."""
 
-from slabfloor.errors import Covered, NoCell, NotBeside, Uncovered
+from slabfloor.errors import Covered, NotBeside, Uncovered
+from slabfloor.floor import refuse_no_cell
 
 
 class Laying:
@@ -10,15 +11,10 @@ class Laying:
         self.floor = floor
         self.over = {}
 
-    def _refuse_no_cell(self, cell):
-        if not self.floor.has(cell):
-            # The number is not told: Python refuses to write out a very long one.
-            raise NoCell("this number is no cell of the floor")
-
     def put(self, one, other):
         """Lay a slab on two cells."""
-        self._refuse_no_cell(one)
-        self._refuse_no_cell(other)
+        refuse_no_cell(self.floor, one)
+        refuse_no_cell(self.floor, other)
         if not self.floor.may(one, other):
             raise NotBeside("the two cells are not beside one another")
         if one in self.over or other in self.over:
@@ -28,7 +24,7 @@ class Laying:
 
     def lift(self, cell):
         """Take away the slab that covers a cell."""
-        self._refuse_no_cell(cell)
+        refuse_no_cell(self.floor, cell)
         if cell not in self.over:
             raise Uncovered("no slab covers this cell")
         other = self.over[cell]

@@ -8,15 +8,8 @@ from slabfloor.errors import FloorError, NoCell, Ragged, StrangeSign, TooLarge
 from slabfloor.floor import MOST, Floor
 
 from helpers import (
-    ALL_SIGNS_12, ENDLESS, FLOORS, HUGE, ORDINARY, lie_of, numbers_around, parameters, refusal, told_beside,
+    ALL_SIGNS_12, ENDLESS, FLOORS, HUGE, ORDINARY, TINY, lie_of, numbers_around, parameters, refusal, told_beside,
 )
-
-
-def small_floors():
-    """All floors of a few places: each sign in each place."""
-    for high, wide in ((1, 1), (1, 2), (2, 1), (1, 3), (3, 1), (2, 2)):
-        for signs in itertools.product(".-|#", repeat=high * wide):
-            yield ["".join(signs[row * wide:(row + 1) * wide]) for row in range(high)]
 
 
 class Interface(unittest.TestCase):
@@ -97,7 +90,7 @@ class Cells(unittest.TestCase):
                 self.assertEqual(told, cells)
 
     def test_cells_and_has_on_each_floor(self):
-        for rows in FLOORS + list(small_floors()):
+        for rows in FLOORS + TINY:
             with self.subTest(rows=rows):
                 floor = Floor(rows)
                 cells = [place for place, (_, _, sign) in lie_of(rows).items() if sign != "#"]
@@ -202,13 +195,26 @@ class May(unittest.TestCase):
                     for other in numbers_around(rows):
                         self.assertIs(floor.may(one, other), told_beside(lie, one, other))
 
-    def test_all_small_floors(self):
-        for rows in small_floors():
+    def test_all_tiny_floors(self):
+        for rows in TINY:
             floor = Floor(rows)
             lie = lie_of(rows)
             for one in range(-3, len(lie) + 3):
                 for other in range(-3, len(lie) + 3):
                     self.assertIs(floor.may(one, other), told_beside(lie, one, other), (rows, one, other))
+
+
+class Lie(unittest.TestCase):
+    def test_row_column_and_sign_of_each_place(self):
+        for rows in FLOORS:
+            floor = Floor(rows)
+            for place, (row, column, sign) in lie_of(rows).items():
+                self.assertEqual(floor.row_and_column(place), (row, column))
+                self.assertEqual(floor.sign(row, column), sign)
+
+    def test_outside_there_are_pillars(self):
+        for row, column in ((-1, 0), (0, -1), (2, 0), (0, 3), (-1, -1), (HUGE, 0), (0, -HUGE)):
+            self.assertEqual(Floor(["...", "---"]).sign(row, column), "#")
 
 
 class Beside(unittest.TestCase):
@@ -226,7 +232,7 @@ class Beside(unittest.TestCase):
         self.assertEqual(Floor([".#.", "#.#", ".#."]).beside(4), [])
 
     def test_each_cell_of_each_floor(self):
-        for rows in FLOORS + list(small_floors()):
+        for rows in FLOORS + TINY:
             with self.subTest(rows=rows):
                 floor = Floor(rows)
                 lie = lie_of(rows)
@@ -326,6 +332,7 @@ class NothingElseChanges(unittest.TestCase):
             floor.cells(),
             [floor.has(place) for place in lie],
             [floor.shade(place) for place in lie],
+            [floor.sign(*floor.row_and_column(place)) for place in lie],
             [floor.beside(cell) for cell in floor.cells()],
             [[floor.may(one, other) for one in lie] for other in lie],
         )

@@ -6,7 +6,9 @@ from slabfloor.errors import Covered, FloorError, NoCell, NotBeside, Uncovered
 from slabfloor.floor import Floor
 from slabfloor.laying import Laying
 
-from helpers import ALL_SIGNS_12, ENDLESS, FLOORS, HUGE, ORDINARY, numbers_around, parameters, refusal
+from helpers import (
+    ALL_SIGNS_12, ENDLESS, FLOORS, HUGE, ORDINARY, greedy, laying_of, numbers_around, parameters, refusal,
+)
 
 # 0 1 2
 # 3 # 5
@@ -14,26 +16,9 @@ from helpers import ALL_SIGNS_12, ENDLESS, FLOORS, HUGE, ORDINARY, numbers_aroun
 RING = ["...", ".#.", "..."]
 
 
-def laying_of(rows, slabs):
-    laying = Laying(Floor(rows))
-    for one, other in slabs:
-        laying.put(one, other)
-    return laying
-
-
 def told(laying):
     """All that a laying tells of its slabs, as copies."""
     return dict(laying.over), list(laying.bare()), list(laying.slabs())
-
-
-def greedy(rows):
-    """A laying in which each cell in turn is covered, with the last cell beside it that is bare."""
-    laying = Laying(Floor(rows))
-    for cell in laying.floor.cells():
-        free = [other for other in laying.floor.beside(cell) if other not in laying.over]
-        if cell not in laying.over and free:
-            laying.put(free[-1], cell)
-    return laying
 
 
 class Interface(unittest.TestCase):
